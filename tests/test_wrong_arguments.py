@@ -1,0 +1,108 @@
+"""0.3 and 0.4: odd arguments wherever a point names an error, and none of them changed."""
+
+import unittest
+
+from tests.odd import odd_things
+from turnedtalk.errors import (
+    BadHouse, BadProgram, BadSchedule, BadTable, BadText, NoLetters, NoNet, NoNumber, NoOrder, NoProgram, NoRow,
+)
+from turnedtalk.houses import Table, Voice, asked, is_talk, talk
+from turnedtalk.programs import Program, program_text, read_program
+from turnedtalk.schedules import Schedule, both_line, net_schedule, turns_line, without
+
+HOUSES = (Table((((), "a"),), "b"), Program((("say", ("last",)),)))
+MUTE = Voice(lambda row: None)
+
+# each call with an odd thing, and the error with its fields
+CALLS = [
+    (lambda thing: Table(thing, "a"), BadTable, None),
+    (lambda thing: Table((thing,), "a"), BadTable, {"part": 0}),
+    (lambda thing: Table(((thing, "a"),), "a"), BadTable, {"part": 0}),
+    (lambda thing: Table((((), thing),), "a"), BadTable, {"part": 0}),
+    (lambda thing: Table((), thing), BadTable, {"part": "other"}),
+    (lambda thing: Table((), "a").word(thing), NoRow, {}),
+    (lambda thing: Table((), "a").word((thing,)), NoRow, {}),
+    (lambda thing: Voice(len).word(thing), NoRow, {}),
+    (lambda thing: Program(()).word(thing), NoRow, {}),
+    (lambda thing: asked(HOUSES[0], thing), NoRow, {}),
+    (lambda thing: asked(MUTE, thing), NoRow, {}),
+    (lambda thing: asked(Voice(lambda row: thing), ("a",)), BadHouse, {"row": ("a",)}),
+    (lambda thing: talk(HOUSES, thing), NoOrder, {}),
+    (lambda thing: talk(HOUSES, (0, thing)), NoOrder, {}),
+    (lambda thing: talk((MUTE, MUTE), thing), NoOrder, {}),
+    (lambda thing: talk((HOUSES[0], Voice(lambda row: thing)), (0, 1)), BadHouse, {"row": ("a",)}),
+    (lambda thing: is_talk(HOUSES, thing, ("a",)), NoOrder, {}),
+    (lambda thing: is_talk(HOUSES, thing, thing), NoOrder, {}),
+    (lambda thing: is_talk((MUTE, MUTE), (0,), thing), BadHouse, {"row": ()}),
+    (lambda thing: Program(thing), BadProgram, {}),
+    (lambda thing: Program((thing,)), BadProgram, {}),
+    (lambda thing: Program((("say", thing),)), BadProgram, {}),
+    (lambda thing: Program((("say", ("text", thing)),)), BadProgram, {}),
+    (lambda thing: Program((("say", (thing, "a")),)), BadProgram, {}),
+    (lambda thing: Program(((thing, "a"),)), BadProgram, {}),
+    (lambda thing: Program((("each", thing, ()),)), BadProgram, {}),
+    (lambda thing: Program((("each", "a", thing),)), BadProgram, {}),
+    (lambda thing: Schedule(thing, ()), BadSchedule, {"part": "many"}),
+    (lambda thing: Schedule(thing, thing), BadSchedule, {"part": "many"}),
+    (lambda thing: Schedule(2, thing), BadSchedule, None),
+    (lambda thing: Schedule(2, (thing,)), BadSchedule, {"part": 0}),
+    (lambda thing: Schedule(2, ((0, 1, thing),)), BadSchedule, {"part": 0}),
+    (lambda thing: Schedule(2, ((0, thing, 1),)), BadSchedule, {"part": 0}),
+    (lambda thing: Schedule(2, ((thing, 0, 1),)), BadSchedule, {"part": 0}),
+    (lambda thing: turns_line(thing), NoNumber, {}),
+    (lambda thing: both_line(thing), NoNumber, {}),
+    (lambda thing: net_schedule(thing, (), 1), NoNet, {}),
+    (lambda thing: net_schedule(2, thing, 1), NoNet, {}),
+    (lambda thing: net_schedule(2, (thing,), 1), NoNet, {}),
+    (lambda thing: net_schedule(2, ((0, thing),), 1), NoNet, {}),
+    (lambda thing: net_schedule(thing, thing, thing), NoNet, {}),
+    (lambda thing: net_schedule(2, ((0, 1),), thing), NoNumber, {}),
+    (lambda thing: without(turns_line(4), thing), NoLetters, {}),
+    (lambda thing: without(turns_line(4), (0, thing)), NoLetters, {}),
+]
+
+
+class WrongArguments(unittest.TestCase):
+    def test_each_call_with_each_odd_thing(self):
+        for at, (call, kind, fields) in enumerate(CALLS):
+            for thing in odd_things():
+                before = repr(thing)
+                with self.assertRaises(kind, msg=f"call {at} with {before[:80]}") as caught:
+                    call(thing)
+                self.assertIs(type(caught.exception), kind)
+                if fields is not None:
+                    self.assertEqual(vars(caught.exception), fields)
+                self.assertEqual(repr(thing), before)
+
+    def test_a_tuple_that_holds_an_odd_thing_is_wrong_there(self):
+        for thing in odd_things():
+            with self.assertRaises(BadTable) as caught:
+                Table(thing, "a")
+            is_short = isinstance(thing, tuple) and len(thing) <= 200
+            self.assertEqual(caught.exception.part, 0 if is_short else "pairs")
+            with self.assertRaises(BadSchedule) as caught:
+                Schedule(2, thing)
+            is_short = isinstance(thing, tuple) and len(thing) <= 60
+            self.assertEqual(caught.exception.part, 0 if is_short else "letters")
+
+    def test_no_program_and_no_text(self):
+        for thing in odd_things():
+            before = repr(thing)
+            if not isinstance(thing, Program):
+                with self.assertRaises(NoProgram):
+                    program_text(thing)
+            with self.assertRaises(BadText) as caught:
+                read_program(thing)
+            self.assertEqual(caught.exception.line, 1 if isinstance(thing, str) else 0)
+            self.assertEqual(repr(thing), before)
+
+    def test_what_is_judged(self):
+        for thing in [*odd_things(), (), ("a",), ("a", "b"), ["a", "a"]]:
+            before = repr(thing)
+            self.assertIs(is_talk(HOUSES, (0, 1), thing), False)
+            self.assertEqual(repr(thing), before)
+        self.assertIs(is_talk(HOUSES, (0, 1), ("a", "a")), True)
+
+
+if __name__ == "__main__":
+    unittest.main()

@@ -1,0 +1,1 @@
+"""Turnedtalk: what is said through letters that are lost and turned."""
