@@ -1,8 +1,10 @@
 """Things of all kinds, which the tests pass where something else is due."""
 
 from turnedtalk.errors import BadHouse, NoRow
+from turnedtalk.faults import Faults, Hearing
 from turnedtalk.houses import Table, Voice
 from turnedtalk.programs import Program
+from turnedtalk.records import Hand, Record
 from turnedtalk.schedules import Schedule
 
 
@@ -91,8 +93,13 @@ def odd_things():
         Voice(len),
         Program(()),
         Schedule(2, ()),
+        Faults((), ()),
+        Hearing(len),
+        Hand(len, len),
+        Record((), (), (), ()),
         NoRow(),
         BadHouse(()),
         (Table((), "a"), Program(())),
         [Voice(len)],
+        (Schedule(2, ()), Faults((), ())),
     ]

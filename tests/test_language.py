@@ -11,6 +11,7 @@ STATEMENTS = (
     ast.Assign, ast.AugAssign, ast.If, ast.While, ast.For, ast.Return, ast.Break, ast.Continue, ast.Pass, ast.Raise,
     ast.Assert, ast.Delete, ast.Nonlocal, ast.Expr, ast.Try, ast.FunctionDef, ast.ClassDef, ast.ImportFrom,
 )
+LIBRARY = {"math": ("comb",)}
 BUILTINS = (
     "len range enumerate zip min max sum abs sorted reversed int str bool list tuple dict set frozenset isinstance ord"
     " repr any all divmod pow iter next map Exception ValueError TypeError KeyError IndexError LookupError"
@@ -68,6 +69,11 @@ class Rules(unittest.TestCase):
         froms = {}
         for name, node in nodes((ast.Import, ast.ImportFrom)):
             self.assertIsInstance(node, ast.ImportFrom, name)
+            if node.module in LIBRARY:
+                for alias in node.names:
+                    self.assertIn(alias.name, LIBRARY[node.module], name)
+                    self.assertIsNone(alias.asname)
+                continue
             package, _, module = node.module.partition(".")
             self.assertEqual((package, node.level), ("turnedtalk", 0), name)
             froms.setdefault(name.removesuffix(".py"), []).append(module)
@@ -95,11 +101,12 @@ class Rules(unittest.TestCase):
     def test_l4_l5_and_l15_functions_and_classes(self):
         for path in FILES:
             tree = ast.parse(path.read_text())
-            outer = [node.name for node in tree.body if isinstance(node, (ast.ClassDef, ast.FunctionDef))]
+            outer = [node.name for node in tree.body if isinstance(node, ast.ClassDef)]
             for node in tree.body:
                 if isinstance(node, ast.ImportFrom):
                     outer += [alias.name for alias in node.names]
-            self.assertEqual(len(outer), len(set(outer)), path.name)
+            bound = outer + [node.name for node in tree.body if isinstance(node, ast.FunctionDef)]
+            self.assertEqual(len(bound), len(set(bound)), path.name)
             for node in ast.walk(tree):
                 if isinstance(node, ast.FunctionDef):
                     self.assertTrue(not node.name.startswith("__") or node.name in DOUBLE, node.name)
@@ -133,7 +140,10 @@ class Rules(unittest.TestCase):
             self.assertNotIn(node.id, UNUSED, (name, node.lineno))
         for name, node in nodes(ast.Attribute):
             self.assertNotIn(node.attr, UNUSED, (name, node.lineno))
-            self.assertFalse(node.attr.startswith("__"), (name, node.lineno))
+            if node.attr == "__name__":
+                self.assertEqual(getattr(node.value, "attr", None), "__class__", (name, node.lineno))
+            elif node.attr not in ("__class__", "__init__"):
+                self.assertFalse(node.attr.startswith("__"), (name, node.lineno))
 
     def test_l10_sizes(self):
         for path in FILES:

@@ -4,14 +4,27 @@ import unittest
 
 from tests.odd import odd_things
 from turnedtalk.errors import (
-    BadHouse, BadProgram, BadSchedule, BadTable, BadText, NoLetters, NoNet, NoNumber, NoOrder, NoProgram, NoRow,
+    BadEar, BadFaults, BadHouse, BadLetter, BadProgram, BadSchedule, BadTable, BadText, NoHouse, NoHouses, NoIndex,
+    NoLetters, NoNet, NoNumber, NoOrder, NoProgram, NoRow,
 )
+from turnedtalk.faults import Faults, Hearing
 from turnedtalk.houses import Table, Voice, asked, is_talk, talk
 from turnedtalk.programs import Program, program_text, read_program
+from turnedtalk.records import Hand, carried, heard
 from turnedtalk.schedules import Schedule, both_line, net_schedule, turns_line, without
+from turnedtalk.walks import earliest, spread
+from turnedtalk.ways import apart, are_apart, is_meeting, meeting
 
 HOUSES = (Table((((), "a"),), "b"), Program((("say", ("last",)),)))
 MUTE = Voice(lambda row: None)
+NONE = Faults((), ())
+SILENT = Hand(lambda *told: None, lambda *told: None)
+RECORD = carried(turns_line(4), HOUSES, SILENT, NONE)
+
+
+def writing(thing):
+    """A manner that writes lists with this within, which are no things."""
+    return Hand(lambda *told: (0, [thing]), lambda *told: None)
 
 # each call with an odd thing, and the error with its fields
 CALLS = [
@@ -59,6 +72,36 @@ CALLS = [
     (lambda thing: net_schedule(2, ((0, 1),), thing), NoNumber, {}),
     (lambda thing: without(turns_line(4), thing), NoLetters, {}),
     (lambda thing: without(turns_line(4), (0, thing)), NoLetters, {}),
+    (lambda thing: Faults(thing, ()), BadFaults, {"part": "lost"}),
+    (lambda thing: Faults(thing, thing), BadFaults, {"part": "lost"}),
+    (lambda thing: Faults((0, thing), ()), BadFaults, {"part": "lost"}),
+    (lambda thing: Faults((), thing), BadFaults, None),
+    (lambda thing: Faults((), (thing,)), BadFaults, {"part": 0}),
+    (lambda thing: Faults((), ((0, "a"), (thing, "a"))), BadFaults, {"part": 1}),
+    (lambda thing: Faults((), ((0, "a"), (1, [thing]))), BadFaults, {"part": 1}),
+    (lambda thing: carried(turns_line(4), (HOUSES[0], [thing]), SILENT, NONE), NoHouses, {}),
+    (lambda thing: carried(turns_line(4), [thing, thing], SILENT, NONE), NoHouses, {}),
+    (lambda thing: carried(turns_line(4), (thing, thing, thing), SILENT, NONE), NoHouses, {}),
+    (lambda thing: carried(turns_line(4), HOUSES, writing(thing), NONE), BadLetter, {"letter": 0}),
+    (lambda thing: carried(turns_line(4), HOUSES, SILENT, Hearing(lambda *told: (thing, thing))), BadEar, {"letter": 0}),
+    (lambda thing: heard(turns_line(4), RECORD, thing, 0), NoHouse, {}),
+    (lambda thing: heard(turns_line(4), RECORD, thing, thing), NoHouse, {}),
+    (lambda thing: heard(turns_line(4), RECORD, 0, (thing,)), NoNumber, {}),
+    (lambda thing: spread(turns_line(4), thing, thing, thing), NoHouse, {}),
+    (lambda thing: spread(turns_line(4), 0, [thing], thing), NoNumber, {}),
+    (lambda thing: spread(turns_line(4), 0, 0, thing), NoLetters, {}),
+    (lambda thing: spread(turns_line(4), 0, 0, (0, thing)), NoLetters, {}),
+    (lambda thing: earliest(turns_line(4), thing, thing, thing), NoOrder, {}),
+    (lambda thing: earliest(turns_line(4), (0, thing), 0, ()), NoOrder, {}),
+    (lambda thing: earliest(turns_line(4), (0, 1), thing, thing), NoIndex, {}),
+    (lambda thing: earliest(turns_line(4), (0, 1), 0, thing), NoLetters, {}),
+    (lambda thing: apart(turns_line(4), thing, 0), NoHouse, {}),
+    (lambda thing: apart(turns_line(4), 0, thing), NoHouse, {}),
+    (lambda thing: meeting(turns_line(4), thing, thing), NoHouse, {}),
+    (lambda thing: are_apart(turns_line(4), thing, 0, thing), NoHouse, {}),
+    (lambda thing: are_apart(turns_line(4), 0, thing, thing), NoHouse, {}),
+    (lambda thing: is_meeting(turns_line(4), thing, thing, thing), NoHouse, {}),
+    (lambda thing: is_meeting(turns_line(4), 0, thing, thing), NoHouse, {}),
 ]
 
 
@@ -100,6 +143,8 @@ class WrongArguments(unittest.TestCase):
         for thing in [*odd_things(), (), ("a",), ("a", "b"), ["a", "a"]]:
             before = repr(thing)
             self.assertIs(is_talk(HOUSES, (0, 1), thing), False)
+            self.assertIs(are_apart(turns_line(4), 0, 1, thing), thing == [])
+            self.assertIs(is_meeting(turns_line(4), 0, 1, thing), False)
             self.assertEqual(repr(thing), before)
         self.assertIs(is_talk(HOUSES, (0, 1), ("a", "a")), True)
 

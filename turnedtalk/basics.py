@@ -13,6 +13,11 @@ def is_integer(thing):
     return isinstance(thing, int) and not isinstance(thing, bool)
 
 
+def is_number(thing):
+    """Whether it is a number: an integer from 0 on."""
+    return is_integer(thing) and thing >= 0
+
+
 def is_from_to(thing, least, most):
     """Whether it is an integer from least to most."""
     return is_integer(thing) and least <= thing <= most

@@ -48,6 +48,21 @@ class Schedule:
         return isinstance(other, Schedule) and self.many == other.many and self.letters == other.letters
 
 
+def letters_to(schedule, house):
+    """The numbers of the letters to a house, ascending, as a list."""
+    return [number for number, letter in enumerate(schedule.letters) if letter[1] == house]
+
+
+def rounds(schedule):
+    """For each beat at which there are letters the list of their numbers, as a list."""
+    found = []
+    for number, letter in enumerate(schedule.letters):
+        if number == 0 or letter[2] > schedule.letters[number - 1][2]:
+            found.append([])
+        found[-1].append(number)
+    return found
+
+
 def turns_line(n):
     """Two houses, of which one writes n letters by turns, house 0 first."""
     if not is_from_to(n, 0, MOST_LETTERS):

@@ -1,0 +1,103 @@
+"""Runs of a manner, and what is known of them behind."""
+
+from turnedtalk.basics import is_number
+from turnedtalk.checks import check_house
+from turnedtalk.errors import NoHouses, NoNumber
+from turnedtalk.faults import Faults, Hearing
+from turnedtalk.runs import Run
+from turnedtalk.schedules import Schedule, letters_to, rounds
+from turnedtalk.things import Numbering
+
+# no rule lets us look whether an object has a method, so these kinds of Python's own are told by their names
+MUTE_KINDS = (
+    "NoneType", "bool", "int", "float", "complex", "str", "bytes", "bytearray", "memoryview", "list", "tuple",
+    "dict", "set", "frozenset", "range", "slice", "ellipsis", "NotImplementedType", "object", "type", "function",
+    "builtin_function_or_method", "method", "enumerate", "filter", "map", "reversed", "zip", "generator", "super",
+    "property", "staticmethod", "classmethod",
+)
+
+
+class Record:
+    """What was written, heard, told and asked in a run."""
+
+    def __init__(self, sent, ears, told, asks):
+        self.sent = sent
+        self.ears = ears
+        self.told = told
+        self.asks = asks
+
+    def __eq__(self, other):
+        return (
+            isinstance(other, Record)
+            and self.sent == other.sent
+            and self.ears == other.ears
+            and self.told == other.told
+            and self.asks == other.asks
+        )
+
+
+class Hand:
+    """A manner made of two functions."""
+
+    def __init__(self, writing, telling):
+        self.writing = writing
+        self.telling = telling
+
+    def write(self, house, heard, ask, letter):
+        """The thing that the house writes in the letter."""
+        return self.writing(house, heard, ask, letter)
+
+    def tell(self, house, heard, ask):
+        """What the house tells in the end."""
+        return self.telling(house, heard, ask)
+
+
+def may_be_house(thing):
+    """Whether it may be a house: an object of no kind of which it is known that it tells no words."""
+    if isinstance(thing, (Exception, Schedule, Faults, Hearing, Record, Hand)):
+        return False
+    return thing.__class__.__name__ not in MUTE_KINDS
+
+
+def are_houses(thing, many):
+    """Whether it is a tuple of so many houses."""
+    return isinstance(thing, tuple) and len(thing) == many and all([may_be_house(house) for house in thing])
+
+
+def carried(schedule, houses, manner, turner):
+    """The Record of a run."""
+    if not are_houses(houses, schedule.many):
+        raise NoHouses()
+    run = Run(schedule, houses, manner)
+    for letters in rounds(schedule):
+        for letter in letters:
+            run.write(letter)
+        for letter in letters:
+            run.hear(letter, turner.ear(letter, run.sent[letter]))
+    told = tuple([run.tell(house) for house in range(schedule.many)])
+    asks = tuple([tuple(asking.rows) for asking in run.askings])
+    return Record(tuple(run.sent), tuple(run.ears), told, asks)
+
+
+def heard(schedule, record, house, beat):
+    """What the house heard ahead of the beat."""
+    check_house(schedule, house)
+    if not is_number(beat):
+        raise NoNumber()
+    letters = [letter for letter in letters_to(schedule, house) if schedule.letters[letter][2] < beat]
+    return tuple([(letter, record.ears[letter]) for letter in letters])
+
+
+def lost(record):
+    """The lot of the letters that were lost."""
+    return tuple([letter for letter, ear in enumerate(record.ears) if ear == ()])
+
+
+def turned(record):
+    """The lot of the letters that were heard, but with another thing than the one written."""
+    numbering = Numbering()
+    found = []
+    for letter, ear in enumerate(record.ears):
+        if ear != () and numbering.number(ear[0]) != numbering.number(record.sent[letter]):
+            found.append(letter)
+    return tuple(found)

@@ -1,0 +1,147 @@
+"""Things, which letters hold, and ears, which are heard of them [3.2].
+
+A house may write all that it heard, and the other one likewise; then one
+thing stands within another one more often than can be counted: over sixty
+letters by turns some thousand billion times. So equal things are looked
+at once, where this can be told quickly. And no walk here calls itself,
+for things may be nested deeper than calls can.
+"""
+
+# so many tuples are looked at one by one, before equal ones are looked for
+PLAIN_LOOKS = 5000
+PLAIN_NUMBERINGS = 200000
+MOST_OF_A_SHAPE = 100
+
+
+def is_leaf(thing):
+    """Whether it is a thing that holds no other ones."""
+    return thing is None or isinstance(thing, (int, str))
+
+
+class Shelf:
+    """Tuples that hold tuples, each with a mark; there are equal ones found.
+
+    Python finds out at once that something is equal to itself, so this is
+    quick where one thing stands within many others.
+    """
+
+    def __init__(self):
+        self._shapes = {}
+
+    def mark(self, thing):
+        """The mark of what is equal to the tuple, None if there is nothing."""
+        for one, mark in self._shapes.get(shape_of(thing), []):
+            if one == thing:
+                return mark
+        return None
+
+    def keep(self, thing, mark):
+        """Keep the tuple with the mark, if there are not too many like it."""
+        kept = self._shapes.setdefault(shape_of(thing), [])
+        if len(kept) < MOST_OF_A_SHAPE:
+            kept.append((thing, mark))
+
+
+def shape_of(thing):
+    """How many items each item of a tuple has, -1 for what is no tuple; equal tuples have one shape."""
+    return tuple([len(part) if isinstance(part, tuple) else -1 for part in thing])
+
+
+def holds_tuples(thing):
+    """Whether an item of a tuple is a tuple."""
+    return any([isinstance(part, tuple) for part in thing])
+
+
+def is_thing(thing):
+    """Whether it is a thing; what is equal to a thing is one, too."""
+    waiting = [thing]
+    shelf = Shelf()
+    looks = 0
+    while waiting:
+        one = waiting.pop()
+        if not isinstance(one, tuple):
+            if not is_leaf(one):
+                return False
+            continue
+        looks += 1
+        if looks <= PLAIN_LOOKS or not holds_tuples(one):
+            waiting.extend(one)
+        elif shelf.mark(one) is None:
+            shelf.keep(one, True)
+            waiting.extend(one)
+    return True
+
+
+def is_ear(thing):
+    """Whether it is an ear."""
+    return isinstance(thing, tuple) and len(thing) <= 1 and is_thing(thing)
+
+
+class Numbering:
+    """Numbers for things: one number for those that are equal, also in kind, through and through.
+
+    Python calls 1 and True equal, so each thing has to be gone through to
+    its leaves. Only when this has taken long, what Python calls equal to a
+    tuple that has a number gets this number without a further look.
+    """
+
+    def __init__(self):
+        self.things = []
+        self.parts = []
+        self._leaves = {}
+        self._tuples = {}
+        self._shelf = Shelf()
+        self._looks = 0
+
+    def number(self, thing):
+        """The number of a thing, None for what is no thing."""
+        opened = [((thing,), [])]
+        while True:
+            items, numbers = opened[-1]
+            if len(numbers) == len(items):
+                opened.pop()
+                if not opened:
+                    return numbers[0]
+                opened[-1][1].append(self._number_of_tuple(items, tuple(numbers)))
+                continue
+            item = items[len(numbers)]
+            if isinstance(item, tuple):
+                known = self._known_number(item)
+                if known is None:
+                    opened.append((item, []))
+                else:
+                    numbers.append(known)
+            elif is_leaf(item):
+                numbers.append(self._number_of_leaf(item))
+            else:
+                return None
+
+    def _number_of_leaf(self, leaf):
+        key = (isinstance(leaf, bool), leaf)
+        if key not in self._leaves:
+            self._leaves[key] = self._next_number(leaf, ())
+        return self._leaves[key]
+
+    def _number_of_tuple(self, thing, parts):
+        if parts not in self._tuples:
+            self._tuples[parts] = self._next_number(thing, parts)
+            if holds_tuples(thing):
+                self._shelf.keep(thing, self._tuples[parts])
+        return self._tuples[parts]
+
+    def _next_number(self, thing, parts):
+        self.things.append(thing)
+        self.parts.append(parts)
+        return len(self.things) - 1
+
+    def _known_number(self, thing):
+        self._looks += 1
+        if self._looks <= PLAIN_NUMBERINGS or not holds_tuples(thing):
+            return None
+        return self._shelf.mark(thing)
+
+
+def alike(one, other):
+    """Whether two things are equal, also in kind, through and through."""
+    numbering = Numbering()
+    return numbering.number(one) == numbering.number(other)
