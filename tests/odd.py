@@ -6,6 +6,8 @@ from turnedtalk.houses import Table, Voice
 from turnedtalk.programs import Program
 from turnedtalk.records import Hand, Record
 from turnedtalk.schedules import Schedule
+from turnedtalk.votes import Votes
+from turnedtalk.wholes import Whole
 
 
 def nested_tuple(deep, inmost=()):
@@ -97,6 +99,8 @@ def odd_things():
         Hearing(len),
         Hand(len, len),
         Record((), (), (), ()),
+        Votes((0,)),
+        Whole(Schedule(2, ()), (0,), 0, 0),
         NoRow(),
         BadHouse(()),
         (Table((), "a"), Program(())),

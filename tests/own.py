@@ -91,3 +91,24 @@ def own_earliest(schedule, order, index, barred):
             return None
     return beat
 
+
+
+def own_keeps_back(schedule, order, goal, index, ahead, behind):
+    """4.2: whether these letters keep the word of this index from the goal."""
+    beat = own_earliest(schedule, order, index, ahead)
+    return beat is None or own_spread(schedule, order[index], beat, ahead + behind)[goal] is None
+
+
+def own_bars(schedule, order, goal, lost, turned):
+    """4.2: all bars, one after the other, by going through all lots."""
+    letters = range(len(schedule.letters))
+    for index, owner in enumerate(order):
+        if owner == goal:
+            continue
+        for ahead in lots(len(letters), lost + turned):
+            rest = [number for number in letters if number not in ahead]
+            most = max([2 * (turned - h) for h in range(turned + 1) if len(ahead) <= lost + h])
+            for size in range(min(most, len(rest)) + 1):
+                for behind in itertools.combinations(rest, size):
+                    if own_keeps_back(schedule, order, goal, index, ahead, behind):
+                        yield index, ahead, behind

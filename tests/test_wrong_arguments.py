@@ -3,23 +3,29 @@
 import unittest
 
 from tests.odd import odd_things
+from turnedtalk.bars import bar, by_turns, gets_over, is_bar, least_both, least_turns
+from turnedtalk.breaks import breaking, is_break
 from turnedtalk.errors import (
     BadEar, BadFaults, BadHouse, BadLetter, BadProgram, BadSchedule, BadTable, BadText, NoHouse, NoHouses, NoIndex,
-    NoLetters, NoNet, NoNumber, NoOrder, NoProgram, NoRow,
+    NoLetter, NoLetters, NoNet, NoNumber, NoOrder, NoProgram, NoRow, NoState,
 )
 from turnedtalk.faults import Faults, Hearing
 from turnedtalk.houses import Table, Voice, asked, is_talk, talk
 from turnedtalk.programs import Program, program_text, read_program
 from turnedtalk.records import Hand, carried, heard
 from turnedtalk.schedules import Schedule, both_line, net_schedule, turns_line, without
+from turnedtalk.votes import Votes, tree
 from turnedtalk.walks import earliest, spread
 from turnedtalk.ways import apart, are_apart, is_meeting, meeting
+from turnedtalk.wholes import Whole, fewest_turned, fits, is_state, state_of, sure, told_by
 
 HOUSES = (Table((((), "a"),), "b"), Program((("say", ("last",)),)))
 MUTE = Voice(lambda row: None)
 NONE = Faults((), ())
 SILENT = Hand(lambda *told: None, lambda *told: None)
 RECORD = carried(turns_line(4), HOUSES, SILENT, NONE)
+LINE = turns_line(4)
+STATE = (0, (), (((), "a"),))
 
 
 def writing(thing):
@@ -102,6 +108,54 @@ CALLS = [
     (lambda thing: are_apart(turns_line(4), 0, thing, thing), NoHouse, {}),
     (lambda thing: is_meeting(turns_line(4), thing, thing, thing), NoHouse, {}),
     (lambda thing: is_meeting(turns_line(4), 0, thing, thing), NoHouse, {}),
+    (lambda thing: bar(LINE, thing, thing, thing, thing), NoOrder, {}),
+    (lambda thing: bar(LINE, (0, 1), thing, thing, thing), NoHouse, {}),
+    (lambda thing: bar(LINE, (0, 1), 0, thing, thing), NoNumber, {}),
+    (lambda thing: bar(LINE, (0, 1), 0, 0, thing), NoNumber, {}),
+    (lambda thing: is_bar(LINE, (0, thing), thing, thing, thing, thing), NoOrder, {}),
+    (lambda thing: is_bar(LINE, (0, 1), thing, thing, thing, thing), NoHouse, {}),
+    (lambda thing: is_bar(LINE, (0, 1), 0, 0, thing, thing), NoNumber, {}),
+    (lambda thing: gets_over(LINE, thing, thing, thing), NoOrder, {}),
+    (lambda thing: gets_over(LINE, (0, 1), thing, 0), NoNumber, {}),
+    (lambda thing: gets_over(turns_line(60), (0, 1), 8, thing), NoNumber, {}),
+    (lambda thing: least_turns(thing, 0, 0), NoNumber, {}),
+    (lambda thing: least_turns(1, 0, thing), NoNumber, {}),
+    (lambda thing: least_both(1, thing, 0), NoNumber, {}),
+    (lambda thing: least_both(thing, thing, thing), NoNumber, {}),
+    (lambda thing: by_turns(thing), NoNumber, {}),
+    (lambda thing: Votes(thing), NoOrder, {}),
+    (lambda thing: Votes((0, thing)), NoOrder, {}),
+    (lambda thing: tree(thing, thing, (), len), NoOrder, {}),
+    (lambda thing: tree((0, 1), thing, (), len), NoHouse, {}),
+    (lambda thing: Whole(LINE, thing, thing, thing), NoOrder, {}),
+    (lambda thing: Whole(LINE, (0,), thing, thing), NoNumber, {}),
+    (lambda thing: Whole(turns_line(60), (0,), 8, thing), NoNumber, {}),
+    (lambda thing: is_state(LINE, thing, thing, thing), NoOrder, {}),
+    (lambda thing: is_state(LINE, (0, 1), thing, thing), NoLetter, {}),
+    (lambda thing: state_of(LINE, thing, thing, (), len), NoOrder, {}),
+    (lambda thing: state_of(LINE, (0, 1), thing, (), len), NoHouse, {}),
+    (lambda thing: fits(LINE, thing, thing, thing, thing), NoOrder, {}),
+    (lambda thing: fits(LINE, (0, 1), thing, thing, thing), NoNumber, {}),
+    (lambda thing: fits(LINE, (0, 1), 0, thing, thing), NoState, {}),
+    (lambda thing: fits(LINE, (0, 1), 0, (0, (), ((thing, "a"),)), ()), NoState, {}),
+    (lambda thing: fits(LINE, (0, 1), 0, STATE, thing), NoLetters, {}),
+    (lambda thing: told_by(LINE, (0, 1), 0, thing, thing), NoState, {}),
+    (lambda thing: told_by(LINE, (0, 1), 0, (0, (thing,), (((), "a"),)), ()), NoState, {}),
+    (lambda thing: told_by(LINE, (0, 1), 0, STATE, (0, thing)), NoLetters, {}),
+    (lambda thing: sure(LINE, thing, thing, thing, thing), NoOrder, {}),
+    (lambda thing: sure(LINE, (0, 1), 0, thing, thing), NoNumber, {}),
+    (lambda thing: sure(LINE, (0, 1), 0, 0, thing), NoState, {}),
+    (lambda thing: sure(turns_line(60), (0, 1), 0, 8, (0, ((1, [thing]),), (((), "a"),))), NoState, {}),
+    (lambda thing: fewest_turned(LINE, thing, thing, thing), NoOrder, {}),
+    (lambda thing: fewest_turned(LINE, (0, 1), thing, thing), NoNumber, {}),
+    (lambda thing: fewest_turned(turns_line(60), (0, 1), 0, thing), NoState, {}),
+    (lambda thing: is_break(LINE, thing, thing, thing, thing, SILENT, thing), NoOrder, {}),
+    (lambda thing: is_break(LINE, (0, 1), thing, thing, thing, SILENT, thing), NoHouse, {}),
+    (lambda thing: is_break(LINE, (0, 1), 0, thing, thing, SILENT, thing), NoNumber, {}),
+    (lambda thing: breaking(LINE, (0, thing), thing, thing, thing, SILENT), NoOrder, {}),
+    (lambda thing: breaking(LINE, (0, 1), thing, thing, thing, SILENT), NoHouse, {}),
+    (lambda thing: breaking(turns_line(60), (0, 1), 0, 8, thing, SILENT), NoNumber, {}),
+    (lambda thing: breaking(LINE, (0, 1), 0, 2, 0, writing(thing)), BadLetter, {"letter": 0}),
 ]
 
 
@@ -145,6 +199,9 @@ class WrongArguments(unittest.TestCase):
             self.assertIs(is_talk(HOUSES, (0, 1), thing), False)
             self.assertIs(are_apart(turns_line(4), 0, 1, thing), thing == [])
             self.assertIs(is_meeting(turns_line(4), 0, 1, thing), False)
+            self.assertIs(is_bar(LINE, (0,), 1, 0, 1, thing), False)
+            self.assertIs(is_state(LINE, (0, 1), 0, thing), False)
+            self.assertIs(is_break(LINE, (0,), 1, 0, 1, SILENT, thing), False)
             self.assertEqual(repr(thing), before)
         self.assertIs(is_talk(HOUSES, (0, 1), ("a", "a")), True)
 

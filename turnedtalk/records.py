@@ -7,6 +7,8 @@ from turnedtalk.faults import Faults, Hearing
 from turnedtalk.runs import Run
 from turnedtalk.schedules import Schedule, letters_to, rounds
 from turnedtalk.things import Numbering
+from turnedtalk.votes import Votes
+from turnedtalk.wholes import Whole
 
 # no rule lets us look whether an object has a method, so these kinds of Python's own are told by their names
 MUTE_KINDS = (
@@ -54,7 +56,7 @@ class Hand:
 
 def may_be_house(thing):
     """Whether it may be a house: an object of no kind of which it is known that it tells no words."""
-    if isinstance(thing, (Exception, Schedule, Faults, Hearing, Record, Hand)):
+    if isinstance(thing, (Exception, Schedule, Faults, Hearing, Record, Hand, Votes, Whole)):
         return False
     return thing.__class__.__name__ not in MUTE_KINDS
 

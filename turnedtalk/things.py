@@ -9,7 +9,7 @@ for things may be nested deeper than calls can.
 
 # so many tuples are looked at one by one, before equal ones are looked for
 PLAIN_LOOKS = 5000
-PLAIN_NUMBERINGS = 200000
+PLAIN_NUMBERINGS = 50000
 MOST_OF_A_SHAPE = 100
 
 
