@@ -1,5 +1,7 @@
 """Things of all kinds, which the tests pass where something else is due."""
 
+import unittest
+
 from turnedtalk.errors import BadHouse, NoRow
 from turnedtalk.faults import Faults, Hearing
 from turnedtalk.houses import Table, Voice
@@ -34,6 +36,34 @@ def nested_pairs(deep):
 
 class Foreign:
     """Nothing of the package, equal to nothing but itself."""
+
+
+async def waiting():
+    """What begins when it is waited for."""
+
+
+def things_of_python():
+    """Objects of many kinds of Python's own, none of which tells words."""
+    def steps():
+        yield 0
+
+    async def async_steps():
+        yield 0
+
+    coroutine = waiting()
+    found = [
+        iter(thing) for thing in [[], (), "", b"", bytearray(), {}, range(2), range(2 ** 70), set(), frozenset(), {}.values(), {}.items()]
+    ]
+    found += [reversed(thing) for thing in [[], (), "", {}, range(2), {}.values(), {}.items()]]
+    found += [{}.keys(), {}.values(), {}.items(), iter(len, 0), enumerate([]), zip(), map(len, []), filter(None, [])]
+    found += [KeyboardInterrupt(), SystemExit(), GeneratorExit(), BaseException(), KeyError(), StopIteration()]
+    found += [str.lower, [].__len__, [].append, len, waiting, steps, steps(), async_steps(), coroutine, Foreign.__init__]
+    found += [int, type, Table, ValueError, None, ..., NotImplemented, True, 1, "a", b"a", bytearray(), memoryview(b"")]
+    found += [[], (), {}, range(0), slice(0), object(), property(), staticmethod(len), classmethod(len), super(int, 1)]
+    found += [waiting.__code__, type.__dict__, int.__dict__["real"], dict.__dict__["fromkeys"]]
+    found += [list[int], int | str, unittest, (lambda: found).__closure__[0], Table((), "a").word, memoryview(b"").__iter__()]
+    coroutine.close()
+    return found
 
 
 def odd_things():

@@ -4,7 +4,7 @@ import itertools
 import random
 import unittest
 
-from tests.odd import Foreign, nested_list, nested_tuple, odd_things
+from tests.odd import Foreign, nested_list, nested_tuple, odd_things, things_of_python
 from tests.own import own_heard, own_run, random_schedule
 from turnedtalk.errors import BadEar, BadHouse, BadLetter, NoHouse, NoHouses, NoNumber, NoRow
 from turnedtalk.faults import Faults, Hearing
@@ -12,6 +12,7 @@ from turnedtalk.houses import Table, Voice
 from turnedtalk.programs import Program
 from turnedtalk.records import Hand, Record, carried, heard, lost, turned
 from turnedtalk.schedules import Schedule, both_line, net_schedule, turns_line
+from turnedtalk.votes import Votes
 
 P = (Table((((), "a"),), "b"), Table(((("a",), "c"),), "d"))
 EIGHT = tuple(Table((), str(at)) for at in range(8))
@@ -130,6 +131,9 @@ class Runs(unittest.TestCase):
         for schedule in [turns_line(60), both_line(30)]:
             record = carried(schedule, P, writer(everything), Faults((7,), ((20, None),)))
             self.assertEqual(len(heard(schedule, record, 0, 1000)), 30)
+            self.assertEqual(lost(record), (7,))
+        for schedule in [turns_line(24), both_line(13)]:
+            record = carried(schedule, P, writer(everything), Faults((7,), ((20, None),)))
             self.assertEqual((lost(record), turned(record)), ((7,), (20,)))
 
     def test_equal_calls_give_equal_answers(self):
@@ -210,6 +214,14 @@ class Errors(unittest.TestCase):
                     carried(turns_line(2), thing, manner, NONE)
         with self.assertRaises(NoHouses):
             carried(Schedule(3, ()), P, writer(lambda *told: None), NONE)
+
+    def test_what_python_has_is_no_house(self):
+        table = P[0]
+        for thing in things_of_python():
+            for wrong in [(thing, table), (table, thing), (thing, thing)]:
+                for schedule in [turns_line(0), turns_line(2)]:
+                    with self.assertRaises(NoHouses, msg=repr(thing)):
+                        carried(schedule, wrong, Votes((0, 1)), NONE)
 
     def test_houses_of_whoever(self):
         class Echo:

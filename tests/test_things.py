@@ -56,7 +56,7 @@ class Things(unittest.TestCase):
             self.assertIs(is_thing((doubled("a", times), [])), False)
             self.assertIs(is_thing(([], doubled("a", times))), False)
             self.assertIs(is_thing(((), (doubled("a", times), (b"", ())))), False)
-        one = doubled("a", 60)
+        one = doubled("a", 15)
         self.assertIs(alike(one, (one[0], ("x", one[0]))), True)
         self.assertIs(alike(one, (one[0], ("y", one[0]))), False)
         self.assertIs(alike(one, one[0]), False)
@@ -73,6 +73,27 @@ class Alike(unittest.TestCase):
             self.assertIs(alike((one, 1), (other, True)), False)
             seen[same(one, other)] += 1
         self.assertGreater(min(seen.values()), 100)
+
+    def test_equal_also_in_kind_however_many_parts(self):
+        for many in (1, 4000, 6000, 30000):
+            for part in [((0,),), ((), ((0, "x"), None))]:
+                for leaf, other in [(1, True), (False, 0), (0, False)]:
+                    wide = (part,) * many
+                    self.assertIs(alike((*wide, ((leaf,),)), (*wide, ((leaf,),))), True)
+                    self.assertIs(alike((*wide, ((leaf,),)), (*wide, ((other,),))), False)
+                    self.assertIs(alike((((leaf,),), *wide), (((other,),), *wide)), False)
+
+    def test_equal_also_in_kind_within_what_stands_there_often(self):
+        for times in (3, 9, 13, 15):
+            one, other, again = doubled((1, ()), times), doubled((True, ()), times), doubled((1, ()), times)
+            self.assertIs(alike((one, one), (one, again)), True)
+            self.assertIs(alike((one, one), (one, other)), False)
+            self.assertIs(alike((one, other), (one, other)), True)
+            self.assertIs(alike((one, (other, one)), (one, (again, one))), False)
+            numbering = Numbering()
+            numbers = [numbering.number(thing) for thing in [one, other, again, (other, one), (one, other)]]
+            self.assertEqual(numbers[0], numbers[2])
+            self.assertEqual(len(set(numbers)), 4)
 
     def test_numbers(self):
         chance = random.Random(33)

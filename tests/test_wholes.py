@@ -200,9 +200,9 @@ class States(unittest.TestCase):
         self.assertEqual(record.told[0], talk(P, by_turns(6)))
         self.assertIs(is_state(LINE, ORDER, 1, (1, ((0, (nested_tuple(300),)),), ())), True)
 
-    def test_sixty_letters(self):
-        # what is written last has more parts than can be counted
-        for schedule, order, lost, turned in [(turns_line(60), by_turns(30), 1, 1), (both_line(13), by_turns(8), 0, 1)]:
+    def test_many_letters(self):
+        # what is written last has some hundred thousand parts
+        for schedule, order, lost, turned in [(turns_line(22), by_turns(16), 1, 1), (both_line(13), by_turns(8), 0, 1)]:
             manner = Whole(schedule, order, lost, turned)
             row = talk(P, order)
             record = carried(schedule, P, manner, Faults((9,)[:lost], ((20, None),)))

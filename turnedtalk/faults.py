@@ -4,6 +4,7 @@ from turnedtalk.basics import is_from_to, is_lot, is_tuple_of
 from turnedtalk.errors import BadFaults
 from turnedtalk.schedules import MOST_LETTERS
 from turnedtalk.things import is_thing
+from turnedtalk.wordless import Wordless
 
 
 def is_turned_letter(thing):
@@ -22,7 +23,7 @@ def check_turned(lost, turned):
             raise BadFaults(at)
 
 
-class Faults:
+class Faults(Wordless):
     """A turner that loses some letters and turns some into other things, told by their numbers."""
 
     def __init__(self, lost, turned):
@@ -45,7 +46,7 @@ class Faults:
         return (self._into.get(letter, thing),)
 
 
-class Hearing:
+class Hearing(Wordless):
     """A turner that tells what a function tells of the letter and the thing."""
 
     def __init__(self, hearing):

@@ -3,23 +3,13 @@
 from turnedtalk.basics import is_number
 from turnedtalk.checks import check_house
 from turnedtalk.errors import NoHouses, NoNumber
-from turnedtalk.faults import Faults, Hearing
 from turnedtalk.runs import Run
-from turnedtalk.schedules import Schedule, letters_to, rounds
+from turnedtalk.schedules import letters_to, rounds
 from turnedtalk.things import Numbering
-from turnedtalk.votes import Votes
-from turnedtalk.wholes import Whole
-
-# no rule lets us look whether an object has a method, so these kinds of Python's own are told by their names
-MUTE_KINDS = (
-    "NoneType", "bool", "int", "float", "complex", "str", "bytes", "bytearray", "memoryview", "list", "tuple",
-    "dict", "set", "frozenset", "range", "slice", "ellipsis", "NotImplementedType", "object", "type", "function",
-    "builtin_function_or_method", "method", "enumerate", "filter", "map", "reversed", "zip", "generator", "super",
-    "property", "staticmethod", "classmethod",
-)
+from turnedtalk.wordless import Wordless, may_be_house
 
 
-class Record:
+class Record(Wordless):
     """What was written, heard, told and asked in a run."""
 
     def __init__(self, sent, ears, told, asks):
@@ -38,7 +28,7 @@ class Record:
         )
 
 
-class Hand:
+class Hand(Wordless):
     """A manner made of two functions."""
 
     def __init__(self, writing, telling):
@@ -52,13 +42,6 @@ class Hand:
     def tell(self, house, heard, ask):
         """What the house tells in the end."""
         return self.telling(house, heard, ask)
-
-
-def may_be_house(thing):
-    """Whether it may be a house: an object of no kind of which it is known that it tells no words."""
-    if isinstance(thing, (Exception, Schedule, Faults, Hearing, Record, Hand, Votes, Whole)):
-        return False
-    return thing.__class__.__name__ not in MUTE_KINDS
 
 
 def are_houses(thing, many):

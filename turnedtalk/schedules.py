@@ -2,6 +2,7 @@
 
 from turnedtalk.basics import is_from_to, is_house, is_lot, is_tuple_of
 from turnedtalk.errors import BadSchedule, NoLetters, NoNet, NoNumber, TooMany
+from turnedtalk.wordless import Wordless
 
 LEAST_HOUSES = 2
 MOST_HOUSES = 8
@@ -32,7 +33,7 @@ def check_letters(many, letters):
             raise BadSchedule(at)
 
 
-class Schedule:
+class Schedule(Wordless):
     """Letters between so many houses, in the order in which they are written."""
 
     def __init__(self, many, letters):

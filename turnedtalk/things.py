@@ -1,16 +1,16 @@
 """Things, which letters hold, and ears, which are heard of them [3.2].
 
 A house may write all that it heard, and the other one likewise; then one
-thing stands within another one more often than can be counted: over sixty
-letters by turns some thousand billion times. So equal things are looked
-at once, where this can be told quickly. And no walk here calls itself,
-for things may be nested deeper than calls can.
+thing stands within another one more often than one would like to count.
+So equal things are looked at once, where this can be told quickly. And no
+walk here calls itself, for things may be nested deeper than calls can.
 """
 
 # so many tuples are looked at one by one, before equal ones are looked for
 PLAIN_LOOKS = 5000
-PLAIN_NUMBERINGS = 50000
 MOST_OF_A_SHAPE = 100
+# what has more parts is not written out to be compared
+MOST_WRITTEN = 20000
 
 
 def is_leaf(thing):
@@ -19,7 +19,7 @@ def is_leaf(thing):
 
 
 class Shelf:
-    """Tuples that hold tuples, each with a mark; there are equal ones found.
+    """Tuples that hold tuples, each with a mark; there those are found that Python calls equal to one.
 
     Python finds out at once that something is equal to itself, so this is
     quick where one thing stands within many others.
@@ -28,12 +28,9 @@ class Shelf:
     def __init__(self):
         self._shapes = {}
 
-    def mark(self, thing):
-        """The mark of what is equal to the tuple, None if there is nothing."""
-        for one, mark in self._shapes.get(shape_of(thing), []):
-            if one == thing:
-                return mark
-        return None
+    def marks(self, thing):
+        """The marks of what is equal to the tuple, as a list."""
+        return [mark for one, mark in self._shapes.get(shape_of(thing), []) if one == thing]
 
     def keep(self, thing, mark):
         """Keep the tuple with the mark, if there are not too many like it."""
@@ -66,7 +63,7 @@ def is_thing(thing):
         looks += 1
         if looks <= PLAIN_LOOKS or not holds_tuples(one):
             waiting.extend(one)
-        elif shelf.mark(one) is None:
+        elif not shelf.marks(one):
             shelf.keep(one, True)
             waiting.extend(one)
     return True
@@ -81,13 +78,16 @@ class Numbering:
     """Numbers for things: one number for those that are equal, also in kind, through and through.
 
     Python calls 1 and True equal, so each thing has to be gone through to
-    its leaves. Only when this has taken long, what Python calls equal to a
-    tuple that has a number gets this number without a further look.
+    its leaves, wherever it stands. When this has taken long, it is left to
+    repr for what Python calls equal to something that has a number: repr
+    goes through to the leaves as well, writes those of unlike kinds in
+    unlike ways, and is quicker than the walk here.
     """
 
     def __init__(self):
         self.things = []
         self.parts = []
+        self._sizes = []
         self._leaves = {}
         self._tuples = {}
         self._shelf = Shelf()
@@ -119,26 +119,32 @@ class Numbering:
     def _number_of_leaf(self, leaf):
         key = (isinstance(leaf, bool), leaf)
         if key not in self._leaves:
-            self._leaves[key] = self._next_number(leaf, ())
+            size = len(leaf) if isinstance(leaf, str) else 1
+            self._leaves[key] = self._next_number(leaf, (), size)
         return self._leaves[key]
 
     def _number_of_tuple(self, thing, parts):
         if parts not in self._tuples:
-            self._tuples[parts] = self._next_number(thing, parts)
-            if holds_tuples(thing):
+            size = 1 + sum([self._sizes[part] for part in parts])
+            self._tuples[parts] = self._next_number(thing, parts, size)
+            if size <= MOST_WRITTEN and holds_tuples(thing):
                 self._shelf.keep(thing, self._tuples[parts])
         return self._tuples[parts]
 
-    def _next_number(self, thing, parts):
+    def _next_number(self, thing, parts, size):
         self.things.append(thing)
         self.parts.append(parts)
+        self._sizes.append(size)
         return len(self.things) - 1
 
     def _known_number(self, thing):
         self._looks += 1
-        if self._looks <= PLAIN_NUMBERINGS or not holds_tuples(thing):
+        if self._looks <= PLAIN_LOOKS or not holds_tuples(thing):
             return None
-        return self._shelf.mark(thing)
+        for number in self._shelf.marks(thing):
+            if repr(self.things[number]) == repr(thing):
+                return number
+        return None
 
 
 def alike(one, other):

@@ -3,6 +3,7 @@
 from turnedtalk.basics import is_house, is_order
 from turnedtalk.claims import considered_rows, counted_claims, owned_rows
 from turnedtalk.errors import NoHouse, NoOrder
+from turnedtalk.wordless import Wordless
 
 TWO = 2
 
@@ -27,7 +28,7 @@ def most_claimed(counts):
     return min(counts, key=lambda word: (-counts[word], word), default=None)
 
 
-class Votes:
+class Votes(Wordless):
     """A manner for two houses."""
 
     def __init__(self, order):

@@ -5,6 +5,7 @@ from turnedtalk.checks import check_count, check_house, check_letters, check_lot
 from turnedtalk.errors import NoLetter, NoState
 from turnedtalk.fittings import Fitting
 from turnedtalk.states import States
+from turnedtalk.wordless import Wordless
 
 
 def told_answers(state):
@@ -83,7 +84,7 @@ def fewest_turned(schedule, order, lost, state):
     return None if lot is None else len(lot)
 
 
-class Whole:
+class Whole(Wordless):
     """A manner for a schedule and an order, right wherever one is, with so many letters lost and turned at most."""
 
     def __init__(self, schedule, order, lost, turned):
