@@ -2,9 +2,12 @@
 
 import unittest
 
+from turnedtalk.ears import Ear
 from turnedtalk.errors import BadHouse, NoRow
 from turnedtalk.faults import Faults, Hearing
 from turnedtalk.houses import Table, Voice
+from turnedtalk.kinds import AllAhead
+from turnedtalk.liars import Liar, Routes
 from turnedtalk.programs import Program
 from turnedtalk.records import Hand, Record
 from turnedtalk.schedules import Schedule
@@ -131,6 +134,10 @@ def odd_things():
         Record((), (), (), ()),
         Votes((0,)),
         Whole(Schedule(2, ()), (0,), 0, 0),
+        AllAhead((0,), ("a", "b")),
+        Ear(0, Table((), "a"), 1, 0, 0),
+        Liar(len),
+        Routes(Schedule(2, ()), 0),
         NoRow(),
         BadHouse(()),
         (Table((), "a"), Program(())),

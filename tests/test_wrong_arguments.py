@@ -5,15 +5,20 @@ import unittest
 from tests.odd import odd_things
 from turnedtalk.bars import bar, by_turns, gets_over, is_bar, least_both, least_turns
 from turnedtalk.breaks import breaking, is_break
+from turnedtalk.ears import Ear, blur, least_window
 from turnedtalk.errors import (
-    BadEar, BadFaults, BadHouse, BadLetter, BadProgram, BadSchedule, BadTable, BadText, NoHouse, NoHouses, NoIndex,
-    NoLetter, NoLetters, NoNet, NoNumber, NoOrder, NoProgram, NoRow, NoState,
+    BadEar, BadFaults, BadHouse, BadLetter, BadProgram, BadSchedule, BadTable, BadText, NoEar, NoHouse, NoHouses, NoIndex,
+    NoKind, NoLetter, NoLetters, NoLiars, NoNet, NoNumber, NoOrder, NoOther, NoProgram, NoRow, NoState, NoTellings, NoThing,
+    NoWord,
 )
 from turnedtalk.faults import Faults, Hearing
 from turnedtalk.houses import Table, Voice, asked, is_talk, talk
+from turnedtalk.kinds import AllAhead, least_known
+from turnedtalk.liars import Routes, all_met, lied, taken, two_worlds
 from turnedtalk.programs import Program, program_text, read_program
 from turnedtalk.records import Hand, carried, heard
 from turnedtalk.schedules import Schedule, both_line, net_schedule, turns_line, without
+from turnedtalk.texts import order_text, thing_text
 from turnedtalk.votes import Votes, tree
 from turnedtalk.walks import earliest, spread
 from turnedtalk.ways import apart, are_apart, is_meeting, meeting
@@ -156,6 +161,54 @@ CALLS = [
     (lambda thing: breaking(LINE, (0, 1), thing, thing, thing, SILENT), NoHouse, {}),
     (lambda thing: breaking(turns_line(60), (0, 1), 0, 8, thing, SILENT), NoNumber, {}),
     (lambda thing: breaking(LINE, (0, 1), 0, 2, 0, writing(thing)), BadLetter, {"letter": 0}),
+    (lambda thing: AllAhead(thing, thing), NoOrder, {}),
+    (lambda thing: AllAhead((0, thing), ("a", "b")), NoOrder, {}),
+    (lambda thing: AllAhead((0,) * 40, (thing, thing)), NoKind, {}),
+    (lambda thing: AllAhead((0, 1), ("", thing)), NoKind, {}),
+    (lambda thing: AllAhead((0, 1), ["a", "b", thing]), NoKind, {}),
+    (lambda thing: least_known(thing, thing, thing), NoOrder, {}),
+    (lambda thing: least_known((0, 1), thing, thing), NoNumber, {}),
+    (lambda thing: least_known((0, 1), 0, thing), NoNumber, {}),
+    (lambda thing: Ear(thing, HOUSES[0], thing, thing, thing), NoHouse, {}),
+    (lambda thing: Ear(0, HOUSES[0], thing, thing, thing), NoNumber, {}),
+    (lambda thing: Ear(1, HOUSES[0], 1, thing, 0), NoNumber, {}),
+    (lambda thing: Ear(1, HOUSES[0], 1, 0, thing), NoNumber, {}),
+    (lambda thing: Ear(1, HOUSES[0], 1, 0, 0).hear([thing]), NoEar, {}),
+    (lambda thing: Ear(1, HOUSES[0], 1, 0, 0).hear((thing, thing)), NoEar, {}),
+    (lambda thing: Ear(1, HOUSES[0], 1, 0, 0).hear((((), [thing]),)), NoEar, {}),
+    (lambda thing: Ear(0, HOUSES[0], 1, 0, 0).hear({0: thing}), NoEar, {}),
+    (lambda thing: least_window(thing, 0), NoNumber, {}),
+    (lambda thing: least_window(0, thing), NoNumber, {}),
+    (lambda thing: blur(thing, 0), NoNumber, {}),
+    (lambda thing: blur(0, thing), NoNumber, {}),
+    (lambda thing: Routes(LINE, thing), NoHouse, {}),
+    (lambda thing: taken(thing, thing, thing, thing, thing), NoHouses, {}),
+    (lambda thing: taken(4, thing, thing, thing, thing), NoHouse, {}),
+    (lambda thing: taken(4, 0, thing, thing, thing), NoHouse, {}),
+    (lambda thing: taken(4, 0, 0, thing, thing), NoOther, {}),
+    (lambda thing: taken(4, 0, 1, thing, thing), NoNumber, {}),
+    (lambda thing: taken(4, 0, 1, 4, thing), NoTellings, {}),
+    (lambda thing: taken(4, 0, 1, 4, (("w", (0,)), thing)), NoTellings, {}),
+    (lambda thing: taken(4, 0, 1, 4, (("w", (0, thing)),)), NoTellings, {}),
+    (lambda thing: taken(4, 0, 1, 4, (("w", thing),)), NoTellings, {}),
+    (lambda thing: taken(4, 0, 1, 4, ((thing, (0,)),)), NoTellings, {}),
+    (lambda thing: all_met(LINE, thing, 0, thing), NoHouse, {}),
+    (lambda thing: all_met(LINE, 0, thing, thing), NoHouse, {}),
+    (lambda thing: all_met(LINE, 1, 1, thing), NoOther, {}),
+    (lambda thing: all_met(LINE, 1, 0, (thing,)), NoNumber, {}),
+    (lambda thing: two_worlds(LINE, thing, thing, thing), NoHouse, {}),
+    (lambda thing: two_worlds(LINE, 1, 1, thing), NoOther, {}),
+    (lambda thing: two_worlds(LINE, 1, 0, [thing]), NoNumber, {}),
+    (lambda thing: lied(LINE, thing, 0, thing, thing), NoHouse, {}),
+    (lambda thing: lied(LINE, 0, 0, thing, thing), NoOther, {}),
+    (lambda thing: lied(LINE, 0, 1, thing, thing), NoWord, {}),
+    (lambda thing: lied(LINE, 0, 1, "w", [thing]), NoLiars, {}),
+    (lambda thing: lied(LINE, 0, 1, "w", {0: thing}), NoLiars, {}),
+    (lambda thing: lied(LINE, 0, 1, "w", {"2": thing}), NoLiars, {}),
+    (lambda thing: thing_text([thing]), NoThing, {}),
+    (lambda thing: thing_text((0, {1: thing})), NoThing, {}),
+    (lambda thing: order_text(thing), NoOrder, {}),
+    (lambda thing: order_text((0, thing)), NoOrder, {}),
 ]
 
 

@@ -28,6 +28,18 @@ def most_claimed(counts):
     return min(counts, key=lambda word: (-counts[word], word), default=None)
 
 
+def voted_row(order, house, heard, ask):
+    """The row of the own words, and of those of the other house that most letters claim."""
+    claims = counted_claims(heard)
+    row = ()
+    for owner in order:
+        word = ask(row) if owner == house else most_claimed(claims.get(row, {}))
+        if word is None:
+            return row
+        row = row + (word,)
+    return row
+
+
 class Votes(Wordless):
     """A manner for two houses."""
 
@@ -43,11 +55,4 @@ class Votes(Wordless):
 
     def tell(self, house, heard, ask):
         """The row of the own words, and of those of the other house that most letters claim."""
-        claims = counted_claims(heard)
-        row = ()
-        for owner in self.order:
-            word = ask(row) if owner == house else most_claimed(claims.get(row, {}))
-            if word is None:
-                return row
-            row = row + (word,)
-        return row
+        return voted_row(self.order, house, heard, ask)
