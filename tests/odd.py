@@ -2,6 +2,8 @@
 
 import unittest
 
+from turnedtalk.desks import Desk
+from turnedtalk.disks import Disk
 from turnedtalk.ears import Ear
 from turnedtalk.errors import BadHouse, NoRow
 from turnedtalk.faults import Faults, Hearing
@@ -10,6 +12,7 @@ from turnedtalk.kinds import AllAhead
 from turnedtalk.liars import Liar, Routes
 from turnedtalk.programs import Program
 from turnedtalk.records import Hand, Record
+from turnedtalk.savings import SavedEar
 from turnedtalk.schedules import Schedule
 from turnedtalk.votes import Votes
 from turnedtalk.wholes import Whole
@@ -138,6 +141,9 @@ def odd_things():
         Ear(0, Table((), "a"), 1, 0, 0),
         Liar(len),
         Routes(Schedule(2, ()), 0),
+        Disk(),
+        SavedEar(1, Table((), "a"), 1, 0, 0, Disk()),
+        Desk(),
         NoRow(),
         BadHouse(()),
         (Table((), "a"), Program(())),

@@ -91,6 +91,9 @@ class OwnAccount(unittest.TestCase):
         written = []
         for at in range(letters):
             writer, hearer = at % 2, 1 - at % 2
+            if chance.random() < 0.1:
+                # a copy goes on as well
+                ears = [ear.copy() for ear in ears]
             thing = ears[writer].letter()
             self.assertTrue(same(thing, owns[writer].letter()))
             self.check(ears[writer], owns[writer])

@@ -169,7 +169,7 @@ class ThingTexts(Reading):
             ("(", 1), ("(1", 2), ("(1,", 3), ("(1,)", 3), ("(,1)", 1), ("(,", 1), (")", 0), ("())", 2), ("(1 ,2)", 2), ("(1, 2)", 3),
             ("(1;2)", 2), ("()()", 2), ("(-0)", 2), ("(1)2", 3), ("((1)", 4), ("1,2", 1), (",", 0), ("~", 0), ("(no,yep)", 6),
             ("1" * 21, 20), ("-" + "1" * 21, 21), ("(" + "9" * 21 + ")", 21), ("1\n", 1), ("\n", 0), ("(\n)", 1), ("(')", 3),
-            ("1e5", 1), ("0x1", 1), ("1_0", 1),
+            ("1e5", 1), ("0x1", 1), ("1_0", 1), ("'\xe9'", 1), ("'a\x7f'", 2), ("\u0661", 0), ("1\u0661", 1), ("'\t'", 1),
         ]:
             self.assertEqual(self.place(text), place, text)
             self.assertEqual(own_place(text), place, text)
@@ -278,7 +278,8 @@ class Orders(Reading):
             ("", 1), ("\n", 1), ("order 0", 1), ("order", 1), ("order \n", 1), ("order  0\n", 1), ("order 0 \n", 1), (" order 0\n", 1),
             ("order 00\n", 1), ("order 01\n", 1), ("order 0,1\n", 1), ("order -1\n", 1), ("orders 0\n", 1), ("order0\n", 1),
             ("order 0\n\n", 2), ("order 0\norder 0\n", 2), ("order 0\norder 0", 2), ("order 0\n ", 2), ("order 1000000000\n", 1),
-            ("order 0\nlost\n", 2), ("order x\nx", 1), ("Order 0\n", 1), ("0 1\n", 1),
+            ("order 0\nlost\n", 2), ("order x\nx", 1), ("Order 0\n", 1), ("0 1\n", 1), ("order \u0661\n", 1),
+            ("order 0\r\n", 1), ("order\t0\n", 1),
         ]:
             self.assertEqual(self.text_fault(read_order, text), line, text)
 

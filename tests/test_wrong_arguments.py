@@ -5,18 +5,22 @@ import unittest
 from tests.odd import odd_things
 from turnedtalk.bars import bar, by_turns, gets_over, is_bar, least_both, least_turns
 from turnedtalk.breaks import breaking, is_break
+from turnedtalk.desks import Desk
+from turnedtalk.disks import Disk, record_line
 from turnedtalk.ears import Ear, blur, least_window
 from turnedtalk.errors import (
-    BadEar, BadFaults, BadHouse, BadLetter, BadProgram, BadSchedule, BadTable, BadText, NoEar, NoHouse, NoHouses, NoIndex,
-    NoKind, NoLetter, NoLetters, NoLiars, NoNet, NoNumber, NoOrder, NoOther, NoProgram, NoRow, NoState, NoTellings, NoThing,
-    NoWord,
+    BadEar, BadFaults, BadHouse, BadLetter, BadProgram, BadSchedule, BadTable, BadText, NoBarShown, NoCut, NoDisk, NoEar,
+    NoHouse, NoHouses, NoIndex, NoKind, NoLetter, NoLetters, NoLiars, NoLine, NoNet, NoNumber, NoOrder, NoOther, NoProgram,
+    NoRow, NoState, NoTellings, NoThing, NoWord,
 )
 from turnedtalk.faults import Faults, Hearing
 from turnedtalk.houses import Table, Voice, asked, is_talk, talk
 from turnedtalk.kinds import AllAhead, least_known
 from turnedtalk.liars import Routes, all_met, lied, taken, two_worlds
+from turnedtalk.pictures import bar_picture
 from turnedtalk.programs import Program, program_text, read_program
 from turnedtalk.records import Hand, carried, heard
+from turnedtalk.savings import SavedEar
 from turnedtalk.schedules import Schedule, both_line, net_schedule, turns_line, without
 from turnedtalk.texts import order_text, thing_text
 from turnedtalk.votes import Votes, tree
@@ -207,6 +211,25 @@ CALLS = [
     (lambda thing: lied(LINE, 0, 1, "w", {"2": thing}), NoLiars, {}),
     (lambda thing: thing_text([thing]), NoThing, {}),
     (lambda thing: thing_text((0, {1: thing})), NoThing, {}),
+    (lambda thing: record_line([thing]), NoThing, {}),
+    (lambda thing: Disk().write((thing,)), NoLine, {}),
+    (lambda thing: Disk().cut([thing]), NoCut, {}),
+    (lambda thing: Disk().cut((thing,)), NoCut, {}),
+    (lambda thing: Disk().drop(thing), NoNumber, {}),
+    (lambda thing: SavedEar(thing, HOUSES[0], thing, thing, thing, thing), NoHouse, {}),
+    (lambda thing: SavedEar(0, HOUSES[0], thing, thing, thing, thing), NoNumber, {}),
+    (lambda thing: SavedEar(0, HOUSES[0], 1, thing, 0, thing), NoNumber, {}),
+    (lambda thing: SavedEar(0, HOUSES[0], 1, 0, thing, thing), NoNumber, {}),
+    (lambda thing: SavedEar(0, HOUSES[0], 1, 0, 0, [thing]), NoDisk, {}),
+    (lambda thing: SavedEar(0, HOUSES[0], 1, 0, 0, Disk()).down(thing), NoNumber, {}),
+    (lambda thing: SavedEar(0, HOUSES[0], 1, 0, 0, Disk()).hear((thing, thing)), NoEar, {}),
+    (lambda thing: SavedEar(1, HOUSES[0], 1, 0, 0, Disk()).hear([thing]), NoEar, {}),
+    (lambda thing: bar_picture(LINE, thing), NoBarShown, {}),
+    (lambda thing: bar_picture(LINE, (0, thing, thing)), NoBarShown, {}),
+    (lambda thing: bar_picture(LINE, (0, (), thing)), NoBarShown, {}),
+    (lambda thing: bar_picture(LINE, (0, (thing,), ())), NoBarShown, {}),
+    (lambda thing: Desk().tell(thing), NoLine, {}),
+    (lambda thing: Desk().tell((thing,)), NoLine, {}),
     (lambda thing: order_text(thing), NoOrder, {}),
     (lambda thing: order_text((0, thing)), NoOrder, {}),
 ]

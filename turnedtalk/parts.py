@@ -36,11 +36,16 @@ UNWRITTEN = ("text", "name")
 BLANKS = "  "
 
 
-def is_name(thing):
-    """Whether it is a name."""
+def has_letters(thing):
+    """Whether it is a string of so many letters as a name has, all of them small."""
     if not isinstance(thing, str) or not 1 <= len(thing) <= MOST_NAME:
         return False
-    return thing.isascii() and thing.isalpha() and thing.islower() and thing not in BARE
+    return thing.isascii() and thing.isalpha() and thing.islower()
+
+
+def is_name(thing):
+    """Whether it is a name."""
+    return has_letters(thing) and thing not in BARE
 
 
 def has_form(thing, sort):
