@@ -8,33 +8,36 @@ from turnedtalk.schedules import rounds
 PLAIN = "."
 
 
+def mark_of(letter, marks):
+    """The mark beside the lot in which the letter is, PLAIN if it is in none."""
+    for lot, mark in marks:
+        if letter in lot:
+            return mark
+    return PLAIN
+
+
 def pictured(schedule, marks):
-    """A line for each beat with its letters, each with its mark, PLAIN if it has none."""
+    """A line for each beat with its letters; marks tells lots, each with the mark of its letters."""
     lines = []
     for letters in rounds(schedule):
         words = [str(schedule.letters[letters[0]][2])]
         for letter in letters:
             sender, hearer, _ = schedule.letters[letter]
-            words.append(str(sender) + ">" + str(hearer) + marks.get(letter, PLAIN))
+            words.append(str(sender) + ">" + str(hearer) + mark_of(letter, marks))
         lines.append(" ".join(words) + "\n")
     return "".join(lines)
 
 
-def marked(lot, mark):
-    """The same mark for each letter of a lot."""
-    return {letter: mark for letter in lot}
-
-
 def picture(schedule, record):
     """The picture of a run."""
-    return pictured(schedule, {**marked(lost(record), "x"), **marked(turned(record), "!")})
+    return pictured(schedule, ((lost(record), "x"), (turned(record), "!")))
 
 
 def can_be_shown(schedule, thing):
     """Whether it is a triple of a number and two lots of letters of the schedule, none in both."""
     if not is_tuple_of(thing, 3, 3) or not is_number(thing[0]):
         return False
-    index, ahead, behind = thing
+    _, ahead, behind = thing
     many = len(schedule.letters)
     return is_lot(ahead, many) and is_lot(behind, many) and not any([letter in ahead for letter in behind])
 
@@ -44,4 +47,4 @@ def bar_picture(schedule, thing):
     if not can_be_shown(schedule, thing):
         raise NoBarShown()
     index, ahead, behind = thing
-    return "word " + str(index) + "\n" + pictured(schedule, {**marked(ahead, "a"), **marked(behind, "b")})
+    return "word " + str(index) + "\n" + pictured(schedule, ((ahead, "a"), (behind, "b")))

@@ -10,7 +10,7 @@ walk here calls itself, for things may be nested deeper than calls can.
 PLAIN_LOOKS = 5000
 MOST_OF_A_SHAPE = 100
 # what has more parts is not written out to be compared
-MOST_WRITTEN = 20000
+MOST_WRITTEN = 2000
 
 
 def is_leaf(thing):
@@ -29,7 +29,7 @@ class Shelf:
         self._shapes = {}
 
     def marks(self, thing):
-        """The marks of what is equal to the tuple, as a list."""
+        """The marks of what is equal to the tuple, in a list."""
         return [mark for one, mark in self._shapes.get(shape_of(thing), []) if one == thing]
 
     def keep(self, thing, mark):
@@ -88,6 +88,7 @@ class Numbering:
         self.things = []
         self.parts = []
         self._sizes = []
+        self._texts = {}
         self._leaves = {}
         self._tuples = {}
         self._shelf = Shelf()
@@ -138,13 +139,23 @@ class Numbering:
         return len(self.things) - 1
 
     def _known_number(self, thing):
+        """The number of the tuple, if it is found without a walk through all of it."""
         self._looks += 1
         if self._looks <= PLAIN_LOOKS or not holds_tuples(thing):
             return None
-        for number in self._shelf.marks(thing):
-            if repr(self.things[number]) == repr(thing):
+        numbers = self._shelf.marks(thing)
+        if not numbers:
+            return None
+        text = repr(thing)
+        for number in numbers:
+            if self._text(number) == text:
                 return number
         return None
+
+    def _text(self, number):
+        if number not in self._texts:
+            self._texts[number] = repr(self.things[number])
+        return self._texts[number]
 
 
 def alike(one, other):
