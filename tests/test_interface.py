@@ -2,6 +2,7 @@
 
 import importlib
 import inspect
+import pathlib
 import unittest
 
 from turnedtalk.disks import Disk
@@ -14,6 +15,7 @@ from turnedtalk.records import Record
 from turnedtalk.schedules import Schedule, turns_line
 from turnedtalk.votes import Votes
 from turnedtalk.wholes import Whole
+from turnedtalk.wordless import Wordless
 
 FUNCTIONS = {
     "houses": ["asked(house, row)", "talk(houses, order)", "is_talk(houses, order, thing)"],
@@ -102,6 +104,16 @@ class Interface(unittest.TestCase):
                 for method in methods:
                     function = vars(kind)[method.partition("(")[0]]
                     self.assertEqual(function.__name__ + str(inspect.signature(function)), method)
+
+    def test_each_class_is_one_of_houses_or_errors_or_tells_no_words(self):
+        folder = pathlib.Path(__file__).resolve().parent.parent / "turnedtalk"
+        seen = 0
+        for path in sorted(folder.glob("*.py")):
+            for kind in vars(self.file(path.stem)).values():
+                if isinstance(kind, type) and not issubclass(kind, ValueError) and kind is not ValueError:
+                    self.assertNotEqual(hasattr(kind, "word"), issubclass(kind, Wordless), kind)
+                    seen += 1
+        self.assertGreater(seen, 20)
 
     def test_attributes_and_equality(self):
         line = turns_line(2)

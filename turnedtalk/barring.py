@@ -9,6 +9,7 @@ made to know all words ahead.
 
 from turnedtalk.flows import Flow
 from turnedtalk.schedules import BEATS_END
+from turnedtalk.wordless import Wordless
 
 
 def delays(schedule, house, beat, other, most):
@@ -37,7 +38,7 @@ def lateness(told):
     return BEATS_END + 1 if told[0] is None else told[0]
 
 
-class Barring:
+class Barring(Wordless):
     """What barred letters, at most so many, can do to a talk."""
 
     def __init__(self, schedule, order, most):

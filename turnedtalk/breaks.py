@@ -68,7 +68,7 @@ def rows_asked(schedule, houses, manner, faults):
             run.write(letter)
             asked[house].extend([(row, beat) for row in run.askings[house].rows[many:]])
         for letter in letters:
-            run.hear(letter, faults.ear(letter, run.sent[letter]))
+            run.hear_by(faults, letter)
     return asked
 
 
@@ -126,8 +126,8 @@ def carried_in_both(schedule, one, other, common, behind):
         for letter in letters:
             held = other.sent[letter] if letter in as_other else one.sent[letter]
             other_held = one.sent[letter] if letter in as_one else other.sent[letter]
-            one.hear(letter, common.ear(letter, held))
-            other.hear(letter, common.ear(letter, other_held))
+            one.hear(letter, common.ear(letter, held), common.passes(letter) and letter not in as_other)
+            other.hear(letter, common.ear(letter, other_held), common.passes(letter) and letter not in as_one)
     turned = [*common.turned, *[(letter, other.sent[letter]) for letter in as_other]]
     other_turned = [*common.turned, *[(letter, one.sent[letter]) for letter in as_one]]
     return sorted_faults(common.lost, turned), sorted_faults(common.lost, other_turned)

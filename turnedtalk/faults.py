@@ -39,6 +39,10 @@ class Faults(Wordless):
     def __eq__(self, other):
         return isinstance(other, Faults) and self.lost == other.lost and self.turned == other.turned
 
+    def passes(self, letter):
+        """Whether the letter is heard as it was written."""
+        return letter not in self.lost and letter not in self._into
+
     def ear(self, letter, thing):
         """The ear with which the letter is heard, which holds the thing."""
         if letter in self.lost:

@@ -7,6 +7,7 @@ one has a letter by which it came. So not all lots have to be tried.
 """
 
 from turnedtalk.states import LOST
+from turnedtalk.wordless import Wordless
 
 
 def true_of(states, first, lot):
@@ -88,7 +89,7 @@ def greater_lots(lot, barred, letters):
     return found
 
 
-class Fitting:
+class Fitting(Wordless):
     """What lots of letters tell, for one State among those within which it knows."""
 
     def __init__(self, states, state, lost):

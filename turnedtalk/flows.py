@@ -6,6 +6,8 @@ followers; where none is found any more, the letters at which the search
 stops meet all ways.
 """
 
+from turnedtalk.wordless import Wordless
+
 # stand for what is ahead of the first letter of a way, and behind its last one
 START = -1
 END = -2
@@ -24,7 +26,7 @@ def usable_letters(schedule, house, beat, other):
     return found
 
 
-class Flow:
+class Flow(Wordless):
     """Ways from what a house knows at a beat to another house, no two of which share a letter.
 
     A letter has two ends: (number, 0), at which it is written, and

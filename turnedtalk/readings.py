@@ -3,6 +3,7 @@
 from turnedtalk.basics import is_word
 from turnedtalk.errors import BadText
 from turnedtalk.parts import BARE, BLANKS, FORMS, UNWRITTEN, is_name
+from turnedtalk.wordless import Wordless
 
 
 def lacks(begun):
@@ -93,7 +94,7 @@ def read_statement(line):
     return None if None in parts else (word, *parts)
 
 
-class Reading:
+class Reading(Wordless):
     """What has been read of a program.
 
     Its heads are the statements that are open, without the bodies that

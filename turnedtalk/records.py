@@ -58,7 +58,7 @@ def carried(schedule, houses, manner, turner):
         for letter in letters:
             run.write(letter)
         for letter in letters:
-            run.hear(letter, turner.ear(letter, run.sent[letter]))
+            run.hear_by(turner, letter)
     told = tuple([run.tell(house) for house in range(schedule.many)])
     asks = tuple([tuple(asking.rows) for asking in run.askings])
     return Record(tuple(run.sent), tuple(run.ears), told, asks)

@@ -5,6 +5,7 @@ from turnedtalk.claims import considered_rows, owned_rows
 from turnedtalk.houses import is_row_and_word
 from turnedtalk.schedules import letters_to
 from turnedtalk.things import Numbering
+from turnedtalk.wordless import Wordless
 
 # the number that an ear has in which nothing was heard
 LOST = -1
@@ -32,7 +33,7 @@ def are_answers(thing):
     return isinstance(thing, tuple) and all([is_row_and_word(pair) for pair in thing])
 
 
-class State:
+class State(Wordless):
     """A state: its house, its ears by the numbers of their things, its answers, and the places of all states within."""
 
     def __init__(self, house, ears, answers, within):
@@ -42,7 +43,7 @@ class State:
         self.within = within
 
 
-class States:
+class States(Wordless):
     """The states that stand within what a house heard.
 
     Things go by their numbers, so that each is judged once for each
@@ -90,10 +91,21 @@ class States:
 
     def own_state(self, house, heard, ask):
         """The State of a house that heard this."""
-        number = self._numbering.number(heard)
+        return self.state_that_heard(house, self.number(heard), ask)
+
+    def state_that_heard(self, house, number, ask):
+        """The State of a house, what it heard having this number."""
         ears = self._ears_of_heard(number)
         self._look_within(ears)
         return self._made(house, ears, ask)
+
+    def number(self, thing):
+        """The number of a thing."""
+        return self._numbering.number(thing)
+
+    def number_of(self, thing, parts):
+        """The number of a tuple whose items have these numbers."""
+        return self._numbering.number_of(thing, parts)
 
     def _ears_of_heard(self, number):
         """The letters and the numbers of what was heard of them, heard having this number."""

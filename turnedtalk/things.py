@@ -6,6 +6,8 @@ So equal things are looked at once, where this can be told quickly. And no
 walk here calls itself, for things may be nested deeper than calls can.
 """
 
+from turnedtalk.wordless import Wordless
+
 # so many tuples are looked at one by one, before equal ones are looked for
 PLAIN_LOOKS = 5000
 MOST_OF_A_SHAPE = 100
@@ -18,7 +20,7 @@ def is_leaf(thing):
     return thing is None or isinstance(thing, (int, str))
 
 
-class Shelf:
+class Shelf(Wordless):
     """Tuples that hold tuples, each with a mark; there those are found that Python calls equal to one.
 
     Python finds out at once that something is equal to itself, so this is
@@ -74,7 +76,7 @@ def is_ear(thing):
     return isinstance(thing, tuple) and len(thing) <= 1 and is_thing(thing)
 
 
-class Numbering:
+class Numbering(Wordless):
     """Numbers for things: one number for those that are equal, also in kind, through and through.
 
     Python calls 1 and True equal, so each thing has to be gone through to
@@ -103,7 +105,7 @@ class Numbering:
                 opened.pop()
                 if not opened:
                     return numbers[0]
-                opened[-1][1].append(self._number_of_tuple(items, tuple(numbers)))
+                opened[-1][1].append(self.number_of(items, tuple(numbers)))
                 continue
             item = items[len(numbers)]
             if isinstance(item, tuple):
@@ -117,20 +119,21 @@ class Numbering:
             else:
                 return None
 
-    def _number_of_leaf(self, leaf):
-        key = (isinstance(leaf, bool), leaf)
-        if key not in self._leaves:
-            size = len(leaf) if isinstance(leaf, str) else 1
-            self._leaves[key] = self._next_number(leaf, (), size)
-        return self._leaves[key]
-
-    def _number_of_tuple(self, thing, parts):
+    def number_of(self, thing, parts):
+        """The number of a tuple whose items have these numbers."""
         if parts not in self._tuples:
             size = 1 + sum([self._sizes[part] for part in parts])
             self._tuples[parts] = self._next_number(thing, parts, size)
             if size <= MOST_WRITTEN and holds_tuples(thing):
                 self._shelf.keep(thing, self._tuples[parts])
         return self._tuples[parts]
+
+    def _number_of_leaf(self, leaf):
+        key = (isinstance(leaf, bool), leaf)
+        if key not in self._leaves:
+            size = len(leaf) if isinstance(leaf, str) else 1
+            self._leaves[key] = self._next_number(leaf, (), size)
+        return self._leaves[key]
 
     def _next_number(self, thing, parts, size):
         self.things.append(thing)

@@ -104,6 +104,10 @@ class Whole(Wordless):
     def tell(self, house, heard, ask):
         """What the first lot tells that fits the house's state, () if none does."""
         states = States(self.schedule, self.order)
-        fitting = Fitting(states, states.own_state(house, heard, ask), self.lost)
+        return self.told_of(states, states.own_state(house, heard, ask))
+
+    def told_of(self, states, state):
+        """What the first lot tells that fits the State, one of these, () if none does."""
+        fitting = Fitting(states, state, self.lost)
         lot = fitting.first(self.turned)
         return () if lot is None else fitting.told_by(lot)
