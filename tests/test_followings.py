@@ -8,7 +8,7 @@ from turnedtalk.bars import by_turns
 from turnedtalk.breaks import breaking, is_break
 from turnedtalk.faults import Faults, Hearing
 from turnedtalk.houses import Table, Voice, talk
-from turnedtalk.records import carried, lost
+from turnedtalk.records import carried, lost, turned
 from turnedtalk.schedules import Schedule, both_line, net_schedule, turns_line
 from turnedtalk.wholes import Whole
 
@@ -74,6 +74,27 @@ class Runs(unittest.TestCase):
             self.check(schedule, OtherWhole(schedule, manner.order, manner.lost, manner.turned), faults)
             equal = Schedule(schedule.many, schedule.letters)
             self.check(equal, manner, faults)
+
+    def test_classes_that_are_called_alike(self):
+        line = turns_line(4)
+        faults = type("Faults", (), {"ear": lambda self, letter, thing: (("turned", letter),)})()
+        whole = type("Whole", (), {
+            "schedule": line, "write": lambda self, house, heard, ask, letter: heard, "tell": lambda self, house, heard, ask: house,
+        })()
+        for manner in [whole, Whole(line, (0, 1), 0, 1)]:
+            for turner in [faults, Faults((1,), ((2, None),))]:
+                self.check(line, manner, turner)
+
+    def test_what_was_turned(self):
+        line = turns_line(5)
+        sent = self.check(line, Whole(line, (0, 1), 0, 1), Faults((), ()))
+        for into in [with_flags(sent[2]), sent[2], sent[0], None]:
+            for turner in [Faults((1,), ((2, into),)), Hearing(Faults((1,), ((2, into),)).ear)]:
+                record = carried(line, HOUSES[:2], Whole(line, (0, 1), 0, 1), turner)
+                self.assertEqual(turned(record), () if same(record.sent[2], into) else (2,))
+        for schedule in [turns_line(60), both_line(30)]:
+            record = carried(schedule, HOUSES[:2], Whole(schedule, (0, 1), 0, 1), Faults((3,), ((5, None), (8, ()))))
+            self.assertEqual((lost(record), turned(record)), ((3,), (5, 8)))
 
     def test_a_turner_that_turns_into_what_is_equal_in_python_alone(self):
         for turner in [Hearing(lambda letter, thing: (with_flags(thing),)), Hearing(lambda letter, thing: (thing,))]:

@@ -5,7 +5,7 @@ from turnedtalk.checks import check_house
 from turnedtalk.errors import NoHouses, NoNumber
 from turnedtalk.runs import Run
 from turnedtalk.schedules import letters_to, rounds
-from turnedtalk.things import Numbering
+from turnedtalk.things import alike
 from turnedtalk.wordless import Wordless, may_be_house
 
 
@@ -17,6 +17,8 @@ class Record(Wordless):
         self.ears = ears
         self.told = told
         self.asks = asks
+        # letters of which a run knows that they were heard as they were written; so they need no look
+        self._passed = ()
 
     def __eq__(self, other):
         return (
@@ -61,7 +63,9 @@ def carried(schedule, houses, manner, turner):
             run.hear_by(turner, letter)
     told = tuple([run.tell(house) for house in range(schedule.many)])
     asks = tuple([tuple(asking.rows) for asking in run.askings])
-    return Record(tuple(run.sent), tuple(run.ears), told, asks)
+    record = Record(tuple(run.sent), tuple(run.ears), told, asks)
+    record._passed = tuple(run.passed)
+    return record
 
 
 def heard(schedule, record, house, beat):
@@ -78,11 +82,12 @@ def lost(record):
     return tuple([letter for letter, ear in enumerate(record.ears) if ear == ()])
 
 
+def is_turned(record, letter):
+    """Whether the letter was heard, but with another thing than the one written."""
+    ear = record.ears[letter]
+    return ear != () and letter not in record._passed and not alike(ear[0], record.sent[letter])
+
+
 def turned(record):
     """The lot of the letters that were heard, but with another thing than the one written."""
-    numbering = Numbering()
-    found = []
-    for letter, ear in enumerate(record.ears):
-        if ear != () and numbering.number(ear[0]) != numbering.number(record.sent[letter]):
-            found.append(letter)
-    return tuple(found)
+    return tuple([letter for letter in range(len(record.ears)) if is_turned(record, letter)])

@@ -49,6 +49,8 @@ class Run(Wordless):
         self.askings = [Asking(house) for house in houses]
         self.sent = []
         self.ears = []
+        # the letters that surely were heard as they were written
+        self.passed = []
         self._heard = [[] for _ in houses]
         self._following = Following(manner) if is_whole(manner) and manner.schedule == schedule else None
         self._manner = manner if self._following is None else self._following
@@ -72,6 +74,8 @@ class Run(Wordless):
         if not is_ear(ear):
             raise BadEar(letter)
         self.ears.append(ear)
+        if as_written:
+            self.passed.append(letter)
         self._heard[self.schedule.letters[letter][1]].append((letter, ear))
         if self._following is not None:
             self._following.hear(letter, ear, as_written)

@@ -163,5 +163,7 @@ class Numbering(Wordless):
 
 def alike(one, other):
     """Whether two things are equal, also in kind, through and through."""
+    if one != other:
+        return False
     numbering = Numbering()
     return numbering.number(one) == numbering.number(other)
