@@ -2,7 +2,7 @@
 
 import unittest
 
-from tests.odd import odd_things
+from tests.odd import odd_things, things_of_python
 from turnedtalk.bars import bar, by_turns, gets_over, is_bar, least_both, least_turns
 from turnedtalk.breaks import breaking, is_break
 from turnedtalk.desks import Desk
@@ -246,6 +246,16 @@ class WrongArguments(unittest.TestCase):
                 if fields is not None:
                     self.assertEqual(vars(caught.exception), fields)
                 self.assertEqual(repr(thing), before)
+
+    def test_each_call_with_what_python_has(self):
+        things = [thing for thing in things_of_python() if not isinstance(thing, (int, str, tuple, list, dict))]
+        self.assertGreater(len(things), 40)
+        for at, (call, kind, fields) in enumerate(CALLS):
+            for thing in things:
+                with self.assertRaises(kind, msg=f"call {at} with {thing!r}") as caught:
+                    call(thing)
+                if fields is not None:
+                    self.assertEqual(vars(caught.exception), fields)
 
     def test_a_tuple_that_holds_an_odd_thing_is_wrong_there(self):
         for thing in odd_things():
