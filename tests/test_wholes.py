@@ -200,6 +200,20 @@ class States(unittest.TestCase):
         self.assertEqual(record.told[0], talk(P, by_turns(6)))
         self.assertIs(is_state(LINE, ORDER, 1, (1, ((0, (nested_tuple(300),)),), ())), True)
 
+    def test_heard_alike_also_in_kind_however_many_parts(self):
+        # house 0 heard one wide thing, and tells of it twice
+        schedule = Schedule(2, ((1, 0, 0), (0, 1, 1), (0, 1, 2)))
+        for many in (0, 10, 6000, 20000):
+            wide = (((0,),),) * many
+            for leaf, other in [(1, 1), (1, True), (True, 1), (0, False)]:
+                one, two = [(0, ((0, ((*wide, ((last,),)),)),), (((), "x"),)) for last in (leaf, other)]
+                state = (1, ((1, (one,)), (2, (two,))), ())
+                alike = type(leaf) is type(other)
+                self.assertIs(fits(schedule, (0,), 0, state, (0,)), alike)
+                self.assertEqual(told_by(schedule, (0,), 0, state, (0,)), ("x",) if alike else ())
+                self.assertEqual(fewest_turned(schedule, (0,), 0, state), 1 if alike else 2)
+                self.assertEqual(sure(schedule, (0,), 0, 1, state), ("x",) if alike else ())
+
     def test_many_letters(self):
         # what is written last has some hundred thousand parts
         for schedule, order, lost, turned in [(turns_line(22), by_turns(16), 1, 1), (both_line(13), by_turns(8), 0, 1)]:

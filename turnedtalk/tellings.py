@@ -77,4 +77,4 @@ def taken_words(tellings, others, liars):
         # which houses a route has matters, not their order; so there are few unlike ones
         routes.setdefault(word, {})[tuple(sorted(route))] = True
     lots = lots_of(others, liars)
-    return tuple([word for word in sorted(routes) if is_taken(list(routes[word]), lots)])
+    return tuple([told for told in sorted(routes) if is_taken(list(routes[told]), lots)])
